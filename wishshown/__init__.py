@@ -1,0 +1,1 @@
+"""Views over tables that are edited through."""
