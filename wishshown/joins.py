@@ -17,15 +17,12 @@ def unify(atom, fact, assignment):
 
 def holds(condition, assignment):
     """Tell whether the assignment fulfills the condition."""
-    left, sign, right = condition
-    words = dict(assignment)
-    return (_word(left, words) == _word(right, words)) == (sign == "=")
+    return _fulfills(dict(assignment), condition)
 
 
 def assignments(database, rule):
     """All assignments of the rule in the database."""
-    _, atoms, conditions = rule
-    return _fulfilling(_joined([{}], atoms, database), conditions)
+    return _ordered(_found(database, rule))
 
 
 def assignments_with(database, rule, fact):
@@ -37,7 +34,7 @@ def assignments_with(database, rule, fact):
             words = _matched(atom, fact, ())
             if words is not None:
                 found.extend(_joined([words], atoms[:place] + atoms[place + 1:], database))
-    return _fulfilling(found, conditions)
+    return _ordered(_fulfilling(found, conditions))
 
 
 def row_of(rule, assignment):
@@ -59,11 +56,16 @@ def witness_of(database, rule, assignment):
 
 def rule_rows(database, rule):
     """The rows of all assignments of the rule in the database."""
-    return sorted({row_of(rule, assignment) for assignment in assignments(database, rule)})
+    return sorted({_filled(rule[0], words) for words in _found(database, rule)})
 
 
 def _assignment(words):
     return tuple(sorted(words.items()))
+
+
+def _ordered(found):
+    """The assignments with the words in found, ascending, each once."""
+    return sorted({_assignment(words) for words in found})
 
 
 def _word(term, words):
@@ -115,7 +117,17 @@ def _picked(words, variables):
     return tuple([words[variable] for variable in variables])
 
 
+def _fulfills(words, condition):
+    left, sign, right = condition
+    return (_word(left, words) == _word(right, words)) == (sign == "=")
+
+
 def _fulfilling(found, conditions):
-    """The assignments with the words in found that fulfill each condition, ascending, each once."""
-    ordered = sorted({_assignment(words) for words in found})
-    return [each for each in ordered if all(holds(condition, each) for condition in conditions)]
+    """The words in found that fulfill each condition."""
+    return [words for words in found if all(_fulfills(words, condition) for condition in conditions)]
+
+
+def _found(database, rule):
+    """The words of each assignment of the rule in the database."""
+    _, atoms, conditions = rule
+    return _fulfilling(_joined([{}], atoms, database), conditions)
