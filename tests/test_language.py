@@ -11,7 +11,10 @@ BUILTINS = set("""len range enumerate zip min max sum abs sorted reversed int st
     repr any all divmod ValueError KeyError iter next""".split())
 METHODS = set("""append clear copy count endswith extend find get index insert isalnum isalpha isdigit islower isspace
     isupper items join keys ljust lower lstrip partition pop remove replace reverse rfind rjust rpartition rsplit rstrip
-    setdefault split splitlines startswith strip update upper values zfill add discard""".split())
+    setdefault split splitlines startswith strip update upper values zfill bit_length add discard""".split())
+LIBRARY = {"heapq": ["heappop", "heappush"]}
+NO_ATTRIBUTES = set("""items keys values pop update append clear extend insert remove reverse setdefault sort args encode
+    decode hex fromhex format format_map mro rows facts count delete database""".split())
 
 
 def trees():
@@ -42,7 +45,7 @@ class Language(unittest.TestCase):
                 self.assertLessEqual(function.end_lineno - function.lineno + 1, 40, (path, function.name))
 
     def test_imports_name_what_a_file_of_the_package_defines_and_are_used(self):
-        defined = {}
+        defined = dict(LIBRARY)
         for path, tree in trees().items():
             defined[f"wishshown.{path.stem}"] = [
                 name for node in tree.body
@@ -91,6 +94,11 @@ class Language(unittest.TestCase):
             values = [node.value for node in nodes(tree, ast.Constant)]
             self.assertEqual([value for value in values if isinstance(value, float)], [], path)
             self.assertEqual([value for value in values if isinstance(value, str) and "%" in value], [], path)
+
+    def test_attributes(self):
+        for path, tree in trees().items():
+            stored = {node.attr for node in nodes(tree, ast.Attribute) if isinstance(node.ctx, ast.Store)}
+            self.assertEqual(stored & NO_ATTRIBUTES, set(), path)
 
     def test_generators_have_names_of_their_own(self):
         functions = [node for tree in trees().values() for node in nodes(tree, ast.FunctionDef)]
