@@ -3,6 +3,8 @@
 Inside this file the words of an assignment are a dict from variables to words.
 """
 
+FEW = 6
+
 
 def variables_of(atoms):
     """The variables of the atoms, ascending, each once."""
@@ -11,7 +13,9 @@ def variables_of(atoms):
 
 def unify(atom, fact, assignment):
     """The assignment with words for the other variables of the atom, so that it makes the fact; or None."""
-    words = _matched(atom, fact, assignment)
+    name, terms = atom
+    table, row = fact
+    words = _matched(terms, row, dict(assignment)) if name == table else None
     return None if words is None else _assignment(words)
 
 
@@ -27,25 +31,45 @@ def assignments(database, rule):
 
 def assignments_with(database, rule, fact):
     """The assignments of the rule in the database that make this fact of some atom."""
+    return _ordered(words_with(rows_by_name(database), rule, fact) if fact in database else [])
+
+
+def words_with(tables, rule, fact):
+    """The words of the assignments that make this fact of some atom, which may come several times.
+
+    The database, which has the fact, is told as tables are: by the rows of each name.
+    """
     _, atoms, conditions = rule
+    name, row = fact
     found = []
-    if fact in database:
-        for place, atom in enumerate(atoms):
-            words = _matched(atom, fact, ())
-            if words is not None:
-                found.extend(_joined([words], atoms[:place] + atoms[place + 1:], database))
-    return _ordered(_fulfilling(found, conditions))
+    for place, (table, terms) in enumerate(atoms):
+        words = _matched(terms, row, {}) if table == name else None
+        if words is not None:
+            found.extend(_joined([words], atoms[:place] + atoms[place + 1:], tables))
+    return _fulfilling(found, conditions)
+
+
+def rows_by_name(facts):
+    """For each name of a table the rows of the facts of this table."""
+    tables = {}
+    for name, row in facts:
+        tables.setdefault(name, []).append(row)
+    return tables
 
 
 def row_of(rule, assignment):
     """The row of an assignment of the rule."""
-    return _filled(rule[0], dict(assignment))
+    return filled(rule[0], dict(assignment))
 
 
 def facts_made(atoms, assignment):
     """The facts that the assignment makes of the atoms, in the order of the atoms."""
-    words = dict(assignment)
-    return [(name, _filled(terms, words)) for name, terms in atoms]
+    return facts_by(atoms, dict(assignment))
+
+
+def facts_by(atoms, words):
+    """The facts that the atoms make with these words of an assignment, in the order of the atoms."""
+    return [(name, filled(terms, words)) for name, terms in atoms]
 
 
 def witness_of(database, rule, assignment):
@@ -56,7 +80,7 @@ def witness_of(database, rule, assignment):
 
 def rule_rows(database, rule):
     """The rows of all assignments of the rule in the database."""
-    return sorted({_filled(rule[0], words) for words in _found(database, rule)})
+    return sorted({filled(rule[0], words) for words in _found(database, rule)})
 
 
 def _assignment(words):
@@ -73,41 +97,42 @@ def _word(term, words):
     return words[worth] if kind == "var" else worth
 
 
-def _filled(terms, words):
+def filled(terms, words):
+    """The row that the terms make with these words of an assignment."""
     return tuple([_word(term, words) for term in terms])
 
 
-def _matched(atom, fact, assignment):
-    """The words of the assignment and those with which the atom makes the fact, or None if they do not agree."""
-    name, terms = atom
-    table, row = fact
-    if name != table:
-        return None
-    words = dict(assignment)
+def _matched(terms, row, words):
+    """The words, with those with which the terms make the row; None if they do not agree."""
+    more = {}
     for (kind, worth), word in zip(terms, row):
-        if kind == "var":
-            if words.setdefault(worth, word) != word:
+        if kind == "word":
+            if worth != word:
                 return None
-        elif worth != word:
+        elif words.get(worth, word) != word or more.setdefault(worth, word) != word:
             return None
-    return words
+    return {**words, **more}
 
 
-def _joined(found, atoms, database):
-    """The words in found, each with the words of all facts that fit the atoms and agree with it."""
-    for atom in atoms:
-        found = _joined_with(found, atom, database)
+def _joined(found, atoms, tables):
+    """The words in found, each with the words of all rows that fit the atoms and agree with it."""
+    for name, terms in atoms:
+        rows = tables.get(name, [])
+        found = _joined_one_by_one(found, terms, rows) if len(found) < FEW else _joined_by_shared(found, terms, rows)
     return found
 
 
-def _joined_with(found, atom, database):
-    if not found:
-        return []
-    # All words in found are of the same variables, so the facts can be laid out by the words that they share.
-    shared = [variable for variable in variables_of([atom]) if variable in found[0]]
+def _joined_one_by_one(found, terms, rows):
+    every = [_matched(terms, row, words) for words in found for row in rows]
+    return [words for words in every if words is not None]
+
+
+def _joined_by_shared(found, terms, rows):
+    # All words in found are of the same variables, so the rows can be laid out by the words that they share.
+    shared = [variable for variable in variables_of([("", terms)]) if variable in found[0]]
     fitting = {}
-    for fact in database:
-        words = _matched(atom, fact, ())
+    for row in rows:
+        words = _matched(terms, row, {})
         if words is not None:
             fitting.setdefault(_picked(words, shared), []).append(words)
     return [{**words, **more} for words in found for more in fitting.get(_picked(words, shared), [])]
@@ -130,4 +155,4 @@ def _fulfilling(found, conditions):
 def _found(database, rule):
     """The words of each assignment of the rule in the database."""
     _, atoms, conditions = rule
-    return _fulfilling(_joined([{}], atoms, database), conditions)
+    return _fulfilling(_joined([{}], atoms, rows_by_name(database)), conditions)
