@@ -200,6 +200,16 @@ class AllLeast(unittest.TestCase):
         self.assertEqual(all_least(told), [([], [emp("p", "a0"), emp("p", "a1")]),
                                            ([], [emp("p", "a0"), emp("p", "p")])])
 
+    def test_fresh_words_have_their_places_by_the_list_of_facts(self):
+        # The rule names the table boss first, so its variable is the first one to get a fresh word.
+        view = (1, [((X,), [("boss", (X, Y)), ("emp", (X, Z))], [(Y, "!=", Z)])])
+        told = task([(0, "add", ("p",))], views=[view], facts=[])
+        self.assertEqual(all_least(told), [
+            ([], [emp("p", "a0"), boss("p", "a1")]),
+            ([], [emp("p", "a0"), boss("p", "p")]),
+            ([], [emp("p", "p"), boss("p", "a0")]),
+        ])
+
     def test_an_empty_list(self):
         self.assertEqual(all_least(task([OFF], [NONE, NONE])), [])
 
