@@ -175,6 +175,18 @@ class Solving(unittest.TestCase):
         self.assertIsNone(solve(told, most=count_of(change) - 1))
 
 
+    def test_many_edits(self):
+        staff = (1, [((X,), [("emp", (X, Y))], [])])
+        edits = [(0, "add", (f"m{number:02}",)) for number in range(40)]
+        change = solve(task(edits, views=[staff]))
+        self.assertTrue(does(task(edits, views=[staff]), change))
+        self.assertEqual(count_of(change), 40)
+        edits = [(0, "add", (f"m{number:02}", "ed")) for number in range(25)]
+        change = solve(task(edits))
+        self.assertTrue(does(task(edits), change))
+        self.assertEqual(count_of(change), 26)
+
+
 class AllLeast(unittest.TestCase):
     def test_the_form_and_the_order(self):
         found = all_least(task([ADD]))

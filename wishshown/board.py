@@ -49,6 +49,7 @@ class Board:
         self.numbers = {}
         self.sharers = {}
         self.blame = {}
+        self.shapes = {}
         self.base = self.bits_of(base)
         self.fixed = self.bits_of([fact for fact in base if not self.may[fact[0]][0]])
 

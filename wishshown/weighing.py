@@ -5,8 +5,6 @@ from wishshown.filling import head_match
 
 # A fact is shared out in this many parts; all numbers up to 16 divide it.
 WHOLE = 720720
-# More missing rows than these are left aside, so that weighing stays quick.
-MOST_ROWS = 8
 
 
 def weight(board, position):
@@ -37,12 +35,13 @@ def _insertions(board, position):
     Each inserted fact is shared out among the rows that can use it. A row costs at least its shares in the facts that
     it needs, and all rows together cost no more than there are facts.
     """
-    missing = board.missing(position)[:MOST_ROWS]
+    missing = board.missing(position)
     shapes = [_shapes(board, place, row) for place, row in missing]
-    standing = board.listed(position.standing)
+    users = _users(shapes)
+    there = _shapes_there(list(users), board.listed(position.standing))
     total = 0
     for (place, row), rules in zip(missing, shapes):
-        costs = [_cost(board, atoms, shapes, standing) for atoms in rules]
+        costs = [_cost(board, atoms, users, there) for atoms in rules]
         least = min([cost for cost in costs if cost is not None], default=None)
         if least is None:
             board.put_blame(place, row)
@@ -56,8 +55,10 @@ def _shapes(board, place, row):
 
     A shape is the name of a table and, for each of its columns, a word or None.
     """
-    pairs = [(rule, head_match(rule, row)) for rule in board.views[place][1]]
-    return [_rule_shapes(rule, dict(bound)) for rule, bound in pairs if bound is not None]
+    if (place, row) not in board.shapes:
+        pairs = [(rule, head_match(rule, row)) for rule in board.views[place][1]]
+        board.shapes[(place, row)] = [_rule_shapes(rule, dict(bound)) for rule, bound in pairs if bound is not None]
+    return board.shapes[(place, row)]
 
 
 def _rule_shapes(rule, words):
@@ -67,30 +68,67 @@ def _rule_shapes(rule, words):
     ]
 
 
+def _columns(shape):
+    """The columns of the shape that have a word."""
+    return tuple([column for column, word in enumerate(shape[1]) if word is not None])
+
+
+def _picked(words, columns):
+    return tuple([words[column] for column in columns])
+
+
+def _known(shape):
+    """The words of the shape."""
+    return _picked(shape[1], _columns(shape))
+
+
+def _users(shapes):
+    """For each shape the number of the rows that can use a fact of this shape, or a greater number."""
+    groups = {}
+    for number, rules in enumerate(shapes):
+        for shape in [shape for atoms in rules for shape in atoms]:
+            groups.setdefault((shape[0], _columns(shape)), {}).setdefault(shape, {})[number] = True
+    users = {}
+    for (name, columns), group in groups.items():
+        for (other, others), more in groups.items():
+            if other == name:
+                common = [column for column in columns if column in others]
+                found = {}
+                for shape, numbers in more.items():
+                    found.setdefault(_picked(shape[1], common), {}).update(numbers)
+                for shape in group:
+                    users[shape] = users.get(shape, 0) + len(found.get(_picked(shape[1], common), {}))
+    return users
+
+
+def _shapes_there(shapes, standing):
+    """The shapes that standing facts have, as the keys of a dict."""
+    found = {}
+    for name, columns in sorted({(shape[0], _columns(shape)) for shape in shapes}):
+        for table, row in standing:
+            if table == name:
+                found[(name, columns, _picked(row, columns))] = True
+    return {shape: True for shape in shapes if (shape[0], _columns(shape), _known(shape)) in found}
+
+
 def _are_alike(shape, other):
-    """Tell whether a fact can have both shapes; a fact is a shape, too."""
+    """Tell whether a fact can have both shapes."""
     if shape[0] != other[0]:
         return False
     return all(word is None or another is None or word == another for word, another in zip(shape[1], other[1]))
 
 
-def _cost(board, atoms, shapes, standing):
+def _cost(board, atoms, users, there):
     """What a missing row costs if a rule with facts of these shapes has it; None if it cannot."""
-    new = [shape for shape in atoms if not any(_are_alike(shape, fact) for fact in standing)]
+    new = [shape for shape in atoms if shape not in there]
     if not all(board.may[name][1] for name, _ in new):
         return None
     if not new:
         # Facts of all shapes are there, but they do not make the row together.
-        return min([_share(shape, shapes) for shape in atoms if board.may[shape[0]][1]], default=None)
+        return min([WHOLE // users[shape] for shape in atoms if board.may[shape[0]][1]], default=None)
     apart = []
     for shape in new:
         # Two shapes that are alike may be those of a single fact.
         if not any(_are_alike(shape, other) for other in apart):
             apart.append(shape)
-    return sum([_share(shape, shapes) for shape in apart])
-
-
-def _share(shape, shapes):
-    """The share of a row in a fact of this shape."""
-    users = [rules for rules in shapes if any(_are_alike(shape, other) for atoms in rules for other in atoms)]
-    return WHOLE // len(users)
+    return sum([WHOLE // users[shape] for shape in apart])
