@@ -48,6 +48,7 @@ class Board:
         self.known = []
         self.numbers = {}
         self.sharers = {}
+        # What was found out about wanted rows: how often they were impossible, and what facts they need.
         self.blame = {}
         self.shapes = {}
         self.base = self.bits_of(base)

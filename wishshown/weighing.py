@@ -86,7 +86,7 @@ def _users(shapes):
     """For each shape the number of the rows that can use a fact of this shape, or a greater number."""
     groups = {}
     for number, rules in enumerate(shapes):
-        for shape in [shape for atoms in rules for shape in atoms]:
+        for shape in [each for atoms in rules for each in atoms]:
             groups.setdefault((shape[0], _columns(shape)), {}).setdefault(shape, {})[number] = True
     users = {}
     for (name, columns), group in groups.items():
