@@ -4,7 +4,7 @@ The facts that come up are numbered, and a list of them is a whole number with t
 such numbers is a position. A child of a position is told by a step: the numbers of its gone and of its must.
 """
 
-from wishshown.bits import is_within, places_in, union
+from wishshown.bits import how_many, is_within, places_in, union
 from wishshown.filling import fillings, head_match
 from wishshown.fresh import fresh_words, strange_words, words_in_use
 from wishshown.joins import assignments, facts_by, facts_made, filled, rows_by_name, unify, variables_of, words_with
@@ -19,6 +19,10 @@ class Position:
     made is a list of (place, row, bits) for the rows of the views in the standing facts, one for each witness; it is
     None as long as nobody has asked for it. before is the position of which this one is a child, or None. spoiling
     tells of facts whether they make an unwanted row if they must stand, too, as far as this was looked at.
+
+    free has the rows, with the places of their views, that may be there or not, whatever is wanted, and firm those that
+    cannot become free any more; left is the number of the rows that may become free besides, or None if all rows that
+    no edit names are free. weighed tells whether a search has weighed the position.
     """
 
     def __init__(self, gone, must, standing, before):
@@ -28,25 +32,37 @@ class Position:
         self.before = before
         self.made = None
         self.spoiling = {}
+        self.free = ()
+        self.firm = ()
+        self.left = 0
+        self.price = 0
+        self.weighed = False
 
 
 class Board:
-    """A task whose facts are numbered, the facts of the database first."""
+    """A task whose facts are numbered, the facts of the database first.
 
-    def __init__(self, task, *, narrow=False):
-        schema, base, views, (_, may) = task
+    With narrow the ways have only those words in use that cannot be replaced by fresh ones. Without prices each
+    deleted or inserted fact costs 1. left is that of the first positions.
+    """
+
+    def __init__(self, task, *, narrow=False, prices=None, left=0):
+        schema, base, views, (edits, may) = task
         self.schema = schema
         self.views = views
         self.rules = [(place, rule) for place, (_, rules) in enumerate(views) for rule in rules]
         self.used = words_in_use(task)
-        # With narrow the ways have only those words in use that cannot be replaced by fresh ones.
         self.choices = telling_words(task) if narrow else None
         self.may = {table[0]: pair for table, pair in zip(schema, may)}
+        self.prices = {table[0]: (1, 1) if prices is None else prices[place] for place, table in enumerate(schema)}
+        self.named = {(place, row): True for place, _, row in edits}
+        self.left = left
         self.key_widths = {name: key for name, _, key in schema}
         # A dict keeps its order: the wanted rows stand view by view, ascending.
         self.wanted = {(place, row): True for place, wanted_rows in enumerate(wanted(task)) for row in wanted_rows}
         self.known = []
         self.numbers = {}
+        self.by_table = {table[0]: 0 for table in schema}
         self.sharers = {}
         # What was found out about wanted rows: how often they were impossible, and what facts they need.
         self.blame = {}
@@ -60,6 +76,7 @@ class Board:
             bit = 1 << len(self.known)
             self.numbers[fact] = bit
             self.known.append(fact)
+            self.by_table[fact[0]] |= bit
             key = self.key_of(fact)
             if key is not None:
                 self.sharers[key] = self.sharers.get(key, 0) | bit
@@ -85,15 +102,47 @@ class Board:
 
     def position_of(self, case):
         """The position of a case."""
-        return self._position(self.bits_of(case[0]), self.bits_of(case[1]), None)
+        position = self._position((self.bits_of(case[0]), self.bits_of(case[1])), None)
+        position.left = self.left
+        return position
 
     def moved(self, position, step):
         """The position of a child."""
-        gone, must = step
-        return self._position(gone, must, position)
+        child = self._position(step, position)
+        child.free, child.firm, child.left = position.free, position.firm, position.left
+        return child
 
-    def _position(self, gone, must, before):
-        return Position(gone, must, self.base & ~gone | must, before)
+    def freed(self, position, each):
+        """The position with this row free, besides."""
+        other = self._with_rows(position, tuple(sorted([*position.free, each])), position.firm)
+        other.left = position.left - 1
+        return other
+
+    def firmed(self, position, each):
+        """The position in which this row cannot become free."""
+        return self._with_rows(position, position.free, tuple(sorted([*position.firm, each])))
+
+    def _with_rows(self, position, free, firm):
+        other = self._position((position.gone, position.must), None)
+        other.made = position.made
+        other.free, other.firm, other.left = free, firm, position.left
+        return other
+
+    def _position(self, step, before):
+        gone, must = step
+        position = Position(gone, must, self.base & ~gone | must, before)
+        position.price = self.cost_of(step)
+        return position
+
+    def cost_of(self, step):
+        """The price of the change of the case with these numbers."""
+        gone, must = step
+        inserted = must & ~self.base
+        total = 0
+        for name, (delete_price, insert_price) in self.prices.items():
+            bits = self.by_table[name]
+            total += how_many(gone & bits) * delete_price + how_many(inserted & bits) * insert_price
+        return total
 
     def case_of(self, step):
         """The case with these numbers."""
@@ -126,14 +175,27 @@ class Board:
         made = [(place, filled(rule[0], words), self.bits_of(facts_by(rule[1], words))) for place, rule, words in found]
         return list({each: True for each in made})
 
+    def minds(self, position, each):
+        """Tell whether the row is not free."""
+        return (position.left is not None or each in self.named) and each not in position.free
+
+    def is_soft(self, position, each):
+        """Tell whether the row, which is not free, may become free."""
+        if position.left is None or position.left == 0:
+            return False
+        return each not in self.named and each not in position.firm
+
     def extras(self, position):
         """The rows that are there and not wanted, each (place, row, bits) with a witness."""
-        return [each for each in self.made_in(position) if each[:2] not in self.wanted]
+        return [
+            each for each in self.made_in(position)
+            if each[:2] not in self.wanted and self.minds(position, each[:2])
+        ]
 
     def missing(self, position):
         """The rows that are wanted and not there, each (place, row)."""
         there = {(place, row) for place, row, _ in self.made_in(position)}
-        return [each for each in self.wanted if each not in there]
+        return [each for each in self.wanted if each not in there and self.minds(position, each)]
 
     def put_blame(self, place, row):
         """Keep in mind that the wanted row was found to be impossible in some position."""
@@ -143,8 +205,8 @@ class Board:
         """The facts of the witness that can still be deleted."""
         return witness & ~position.must & ~self.fixed
 
-    def extra_steps(self, position, witness):
-        """The children of a node for an extra row with this witness."""
+    def extra_steps(self, position, witness, *, bound=None):
+        """The children of a node for an extra row with this witness; if bound is given, those that cost less."""
         options = self.options(position, witness)
         must = position.must
         steps = []
@@ -153,21 +215,33 @@ class Board:
             if bit & options:
                 steps.append((position.gone | bit, must))
             must |= bit
-        return steps
+        return steps if bound is None else [step for step in steps if self.cost_of(step) < bound]
 
     def missing_steps(self, position, place, row):
         """The children of a node for a missing row."""
         return self._way_steps(position, place, row, lambda fact, others: self._allows(position, fact, others), None)
 
-    def live_steps(self, position, place, row, most):
+    def live_steps(self, position, place, row, *, most, bound):
         """The children of a node for a missing row, but those in which facts that stay make an unwanted row.
 
-        If there are more than most, which can be None, only some of them are returned.
+        If there are more than most, which can be None, only some of them are returned. If bound is given, children
+        that cost as much are left out, too.
         """
         lasting = rows_by_name(self.listed(self._lasting(position)))
-        return self._way_steps(
-            position, place, row, lambda fact, others: self._keeps_alive(position, lasting, fact, others), most,
-        )
+
+        def allows(fact, others):
+            if bound is not None and self._price_with(position, others + [fact]) >= bound:
+                return False
+            return self._keeps_alive(position, lasting, fact, others)
+
+        steps = self._way_steps(position, place, row, allows, most)
+        return steps if bound is None else [step for step in steps if self.cost_of(step) < bound]
+
+    def _price_with(self, position, facts):
+        """The price of the position if these facts must stand, too."""
+        known = self.base | position.must
+        new = sorted({fact for fact in facts if not self.numbers.get(fact, 0) & known})
+        return position.price + sum([self.prices[name][1] for name, _ in new])
 
     def _lasting(self, position):
         """The facts that stand in each change of the position that does the wish."""
@@ -179,8 +253,8 @@ class Board:
             return False
         if fact not in position.spoiling:
             new = not self.numbers.get(fact, 0) & self._lasting(position)
-            position.spoiling[fact] = new and self._makes_extra(lasting, [], fact)
-        return not position.spoiling[fact] and not (others and self._makes_extra(lasting, others, fact))
+            position.spoiling[fact] = new and self._makes_extra(position, lasting, [], fact)
+        return not position.spoiling[fact] and not (others and self._makes_extra(position, lasting, others, fact))
 
     def _way_steps(self, position, place, row, allows, most):
         """The children for the ways with facts that are allowed; if there are more than most, only some of them."""
@@ -194,15 +268,23 @@ class Board:
                 break
         return steps
 
-    def _makes_extra(self, lasting, others, fact):
-        """Tell whether the fact makes an unwanted row with the others and with the lasting facts, which are by name."""
+    def _makes_extra(self, position, lasting, others, fact):
+        """Tell whether the fact makes rows that must not be, with the others and with the lasting facts.
+
+        Rows that may become free must not be more than can become it. The lasting facts are told by the rows of each
+        name.
+        """
         tables = dict(lasting)
         for name, row in others + [fact]:
             tables[name] = tables.get(name, []) + [row]
+        soft = {}
         for place, rule in self.rules:
             for words in words_with(tables, rule, fact):
-                if (place, filled(rule[0], words)) not in self.wanted:
-                    return True
+                each = (place, filled(rule[0], words))
+                if each not in self.wanted and self.minds(position, each):
+                    soft[each] = True
+                    if not self.is_soft(position, each) or len(soft) > position.left:
+                        return True
         return False
 
     def _words_for(self, position, spot, row):

@@ -3,40 +3,55 @@
 from wishshown.board import Board
 from wishshown.cases import first_case, steps_of
 from wishshown.choosing import choose
-from wishshown.searching import can_be_done
+from wishshown.searching import any_end
+
+DEAR = ("dear",)
 
 
 def refute(task):
     """A refutation of the task; None if some change does the wish."""
     narrow = Board(task, narrow=True)
-    if can_be_done(narrow):
+    if any_end(narrow) is not None:
         return None
     board = Board(task)
     # What stood in the way before is looked at first, which keeps the tree small.
     board.blame = narrow.blame
-    return _refutation(board, board.position_of(first_case()))
+    return tree_of(board, board.position_of(first_case()), None)
 
 
-def _refutation(board, position):
-    """A refutation of a position of which no change does the wish."""
-    node, _ = choose(board, position)
+def tree_of(board, position, bound):
+    """A bound tree of a position of which no change that costs less does the wish; without a bound a refutation."""
+    if bound is not None and position.price >= bound:
+        return (DEAR, ())
+    node, _ = choose(board, position, bound=bound)
     trees = []
     for step in steps_of(board, position, node):
-        trees.append(_refutation(board, board.moved(position, step)))
+        trees.append(tree_of(board, board.moved(position, step), bound))
     return (node, tuple(trees))
 
 
 def is_refutation(task, case, tree):
     """Tell whether the tree is a refutation of the case of the task."""
-    board = Board(task)
+    return is_tree_of(Board(task), case, tree, None)
+
+
+def is_tree_of(board, case, tree, bound):
+    """Tell whether the tree is a bound tree of the case; without a bound, whether it is a refutation."""
     waiting = [(board.position_of(case), tree)]
     while waiting:
         position, (node, trees) = waiting.pop()
-        steps = steps_of(board, position, node)
+        steps = _steps_below(board, position, node, bound)
         if steps is None or len(steps) != len(trees):
             return False
         waiting.extend([(board.moved(position, step), each) for step, each in zip(steps, trees)])
     return True
+
+
+def _steps_below(board, position, node, bound):
+    """The children that the trees under the node must be trees of; None if the node cannot stand here."""
+    if node == DEAR:
+        return [] if bound is not None and position.price >= bound else None
+    return steps_of(board, position, node)
 
 
 def size(tree):

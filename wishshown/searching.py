@@ -6,7 +6,7 @@ from wishshown.board import Board
 from wishshown.choosing import choose
 from wishshown.fresh import is_renamed_part, least_form
 from wishshown.tables import place_of
-from wishshown.weighing import weight
+from wishshown.weighing import forced, weight
 
 # How many positions the attempts of a probe look at.
 PROBES = (50, 200, 800)
@@ -26,11 +26,8 @@ def ends(task):
 def solve(task, *, most=None):
     """A change that does the wish with the least number of facts; None if there is none, or none with at most most."""
     board = Board(task, narrow=True)
-    if probe(board) is False:
-        return None
-    for position in _settled(board, most):
-        return board.change_of(position)
-    return None
+    position = cheapest_end(board, most)
+    return None if position is None else board.change_of(position)
 
 
 def all_least(task):
@@ -46,17 +43,32 @@ def _rank(schema, change):
     return (len(deleted) + len(inserted), deleted, inserted)
 
 
-def can_be_done(board):
-    """Tell whether some change does the wish of the board."""
+def any_end(board):
+    """A settled position; None if there is none."""
     told = probe(board)
     if told is None:
-        for _ in _settled(board, None):
-            return True
-    return told is True
+        for position in _settled(board, None):
+            return position
+    return None if told is False else told
+
+
+def cheapest_end(board, most):
+    """A settled position with the least price; None if there is none, or none whose price is at most most."""
+    told = probe(board)
+    if told is False:
+        return None
+    best = None
+    if told is not None and (most is None or told.price <= most):
+        # Only what is cheaper still counts.
+        best = told
+        most = told.price - 1
+    for position in _settled(board, most):
+        return position
+    return best
 
 
 def probe(board):
-    """Tell whether some change does the wish of the board if that is found out soon; otherwise None.
+    """A settled position, or False if there is none, if that is found out soon; otherwise None.
 
     Children are looked at before the other children of the positions above them. What is found to be impossible on
     the way stays on the board, so that a later attempt, or a search, begins with what is hard.
@@ -69,43 +81,58 @@ def probe(board):
             position = waiting.pop()
             chosen = choose(board, position)
             if chosen is None:
-                return True
-            waiting.extend([board.moved(position, step) for step in chosen[1]])
+                return position
+            if forced(board, position) <= (position.left or 0):
+                waiting.extend(_children(board, position, chosen))
         if not waiting:
             return False
     return None
 
 
-def _settled(board, most):
-    """Yield settled positions whose changes have at most most facts, those with fewer facts first.
+def _children(board, position, chosen):
+    """What the position is parted into by the chosen node; ahead of all, the one in which its row is free."""
+    node, steps = chosen
+    _, place, row = node[:3]
+    if not board.is_soft(position, (place, row)):
+        return [board.moved(position, step) for step in steps]
+    firm = board.firmed(position, (place, row))
+    return [board.freed(position, (place, row))] + [board.moved(firm, step) for step in steps]
 
-    Those whose change has a part that is alike to a change that was yielded before are left out: as all proper parts
-    of a change come before it, the changes that are yielded are the ones of which no proper part does the wish.
+
+def _settled(board, most):
+    """Yield settled positions whose changes cost at most most, the cheaper ones first.
+
+    Those whose change has a part that is alike to a change that was yielded before are left out. If each fact costs 1,
+    all proper parts of a change come before it: then the changes that are yielded are the ones of which no proper part
+    does the wish.
     """
     found = []
     seen = {}
     turn = 0
+    bound = None if most is None else most + 1
     queue = [(0, 0, board.position_of(([], [])))]
     while queue:
         # Of positions with the same weight the latest one comes first, as it is likely to be nearest to an end.
         least, _, position = heappop(queue)
-        need = weight(board, position) if position.made is None else least
+        need = least if position.weighed else weight(board, position)
+        position.weighed = True
         if need is None or (most is not None and need > most) or _has_part(board, position, found):
             continue
         turn += 1
         if need > least:
             heappush(queue, (need, -turn, position))
             continue
-        chosen = choose(board, position)
+        chosen = choose(board, position, bound=bound)
         if chosen is None:
             found.append(position)
             yield position
             continue
-        for step in chosen[1]:
-            if step not in seen:
-                seen[step] = True
+        for child in _children(board, position, chosen):
+            key = (child.gone, child.must, child.free, child.firm)
+            if key not in seen:
+                seen[key] = True
                 turn += 1
-                heappush(queue, (least, -turn, board.moved(position, step)))
+                heappush(queue, (least, -turn, child))
 
 
 def _has_part(board, position, found):

@@ -1,41 +1,70 @@
-"""How many facts the changes of a position must have at least."""
+"""What the changes of a position must cost at least."""
 
 from wishshown.bits import how_many
 from wishshown.filling import head_match
 
-# A fact is shared out in this many parts; all numbers up to 16 divide it.
+# The price of a fact is shared out in this many parts; all numbers up to 16 divide it.
 WHOLE = 720720
 
 
 def weight(board, position):
-    """A number of facts that each change of the position that does the wish has; None if there is no such change."""
+    """A price that each change of the position that does the wish costs; None if there is no such change."""
+    if forced(board, position) > (position.left or 0):
+        return None
     deletions = _deletions(board, position)
     insertions = _insertions(board, position)
     if deletions is None or insertions is None:
         return None
-    return how_many(position.gone) + how_many(position.must & ~board.base) + deletions + insertions
+    return position.price + deletions + insertions
+
+
+def forced(board, position):
+    """The number of the rows that must become free, as far as this is seen at once."""
+    if not position.left:
+        return 0
+    extras = [
+        (place, row) for place, row, bits in board.extras(position)
+        if board.is_soft(position, (place, row)) and board.options(position, bits) == 0
+    ]
+    missing = [each for each in board.missing(position) if board.is_soft(position, each)]
+    shapes = [_shapes(board, place, row) for place, row in missing]
+    every = [shape for rules in shapes for atoms in rules for shape in atoms]
+    there = _shapes_there(every, board.listed(position.standing))
+    barred = [rules for rules in shapes if all(_is_barred(board, atoms, there) for atoms in rules)]
+    return len(set(extras)) + len(barred)
+
+
+def _is_barred(board, atoms, there):
+    """Tell whether a fact of some shape would have to be inserted that may not be."""
+    return not all(board.may[shape[0]][1] for shape in atoms if shape not in there)
 
 
 def _deletions(board, position):
-    """The number of some extra witnesses without common facts: each of them must lose a fact."""
+    """The price of some extra witnesses without common facts: each of them must lose a fact."""
+    extras = [bits for place, row, bits in board.extras(position) if not board.is_soft(position, (place, row))]
     taken = 0
-    count = 0
-    for options in sorted([board.options(position, bits) for _, _, bits in board.extras(position)], key=how_many):
+    total = 0
+    for options in sorted([board.options(position, bits) for bits in extras], key=how_many):
         if options == 0:
             return None
         if not options & taken:
             taken |= options
-            count += 1
-    return count
+            total += _least_price(board, options)
+    return total
+
+
+def _least_price(board, options):
+    """The price of deleting the cheapest one of these facts."""
+    return min([pair[0] for name, pair in board.prices.items() if board.by_table[name] & options])
 
 
 def _insertions(board, position):
-    """A number of facts that must be inserted for the missing rows; None if one of these cannot come.
+    """A price of the facts that must be inserted for the missing rows; None if one of these cannot come.
 
     Each inserted fact is shared out among the rows that can use it. A row costs at least its shares in the facts that
-    it needs, and all rows together cost no more than there are facts.
+    it needs, and all rows together cost no more than the facts do.
     """
-    missing = board.missing(position)
+    missing = [each for each in board.missing(position) if not board.is_soft(position, each)]
     shapes = [_shapes(board, place, row) for place, row in missing]
     users = _users(shapes)
     there = _shapes_there(list(users), board.listed(position.standing))
@@ -120,15 +149,20 @@ def _are_alike(shape, other):
 
 def _cost(board, atoms, users, there):
     """What a missing row costs if a rule with facts of these shapes has it; None if it cannot."""
-    new = [shape for shape in atoms if shape not in there]
-    if not all(board.may[name][1] for name, _ in new):
+    if _is_barred(board, atoms, there):
         return None
+    new = [shape for shape in atoms if shape not in there]
     if not new:
         # Facts of all shapes are there, but they do not make the row together.
-        return min([WHOLE // users[shape] for shape in atoms if board.may[shape[0]][1]], default=None)
+        return min([_share(board, shape, users) for shape in atoms if board.may[shape[0]][1]], default=None)
     apart = []
     for shape in new:
         # Two shapes that are alike may be those of a single fact.
         if not any(_are_alike(shape, other) for other in apart):
             apart.append(shape)
-    return sum([WHOLE // users[shape] for shape in apart])
+    return sum([_share(board, shape, users) for shape in apart])
+
+
+def _share(board, shape, users):
+    """What a row that uses a fact of this shape costs at least for it, in parts of a whole."""
+    return board.prices[shape[0]][1] * WHOLE // users[shape]
