@@ -9,6 +9,7 @@ from wishshown.tables import ascending, same_key
 from wishshown.wishes import does, wanted, wish_of
 
 X, Y, Z, U = ("var", 0), ("var", 1), ("var", 2), ("var", 3)
+ANN = ("word", "ann")
 
 
 def spoil(value):
@@ -216,3 +217,29 @@ def made_task(seed, words=("a", "b"), most=4, views=2):
         else:
             edits.setdefault((place, row), maker.random.choice(["add", "remove"]))
     return (schema, facts, views, ([(place, deed, row) for (place, row), deed in edits.items()], may))
+
+
+def plain_rule(maker, schema):
+    """A plain rule over some of the tables, with words in its atoms and its head at times."""
+    chance = maker.random
+    tables = chance.sample(schema, chance.randint(1, min(3, len(schema))))
+    atoms = [(name, tuple(ANN if chance.random() < 0.15 else ("var", chance.choice([0, 2, 5])) for _ in range(width)))
+             for name, width, _ in tables]
+    shown = sorted({term for _, terms in atoms for term in terms if term[0] == "var"})
+    chance.shuffle(shown)
+    head = shown + [ANN] * (chance.random() < 0.2) + shown[:chance.randint(0, 1)]
+    return (tuple(head or [ANN]), atoms, [])
+
+
+def plain_closure(schema, rule, variables):
+    """What point 66 says, one atom at a time."""
+    keys = {name: key for name, _, key in schema}
+    known = set(variables)
+    while True:
+        more = set(known)
+        for name, terms in rule[1]:
+            if keys[name] is not None and all(n in known for kind, n in terms[:keys[name]] if kind == "var"):
+                more |= {n for kind, n in terms if kind == "var"}
+        if more == known:
+            return sorted(known)
+        known = more

@@ -1,6 +1,6 @@
 import unittest
 
-from helpers import X, Y, Z, made_task, plain_children, pure, small_changes
+from helpers import U, X, Y, Z, made_task, plain_children, pure, small_changes
 from wishshown import prices as prices_file
 from wishshown.cases import change_of, children, first_case
 from wishshown.fresh import fresh_words, words_in_use
@@ -162,6 +162,25 @@ class Cheapest(unittest.TestCase):
         told = (schema, facts, [CHIEFS], (edits, [ALL, ALL]))
         self.assertEqual(self.check(told, [(4, 4), (5, 2)], 7)[0], [XC])
         self.assertEqual(self.check(told, [(1, 4), (5, 2)], 5), ([ANN], [("emp", ("ann", "y"))]))
+
+    def test_a_key_makes_some_ways_dear(self):
+        schema = [("b", 3, 1), ("c", 2, 2), ("a", 1, None)]
+        facts = [("b", ("w1", "w4", "w5")), ("c", ("w6", "w4")), ("a", ("w3",)), ("a", ("w6",))]
+        view = (1, [((Z,), [("c", (U, ("word", "w4"))), ("b", (X, Y, X)), ("a", (Z,))], [])])
+        edits = [(0, "add", ("w0",)), (0, "add", ("w3",)), (0, "add", ("w6",))]
+        told = (schema, facts, [view], (edits, [ALL] * 3))
+        self.check(told, [(1000, 0), (3, 1000), (1000, 3)], 3)
+        self.check(told, [(1000, 1), (3, 1000), (1000, 0)], 1)
+
+    def test_cheapest_and_least_are_the_same_if_all_facts_cost_1(self):
+        for seed in range(200):
+            told = made_task(seed)
+            change = solve(told)
+            if change is not None:
+                prices = [(1, 1)] * len(told[0])
+                least = len(change[0] + change[1])
+                self.assertEqual(cheapest(told, prices=prices)[0], least)
+                self.assertIsNotNone(bound_tree(told, prices=prices, bound=least))
 
     def test_made_tasks(self):
         count = 0

@@ -234,14 +234,19 @@ class Board:
                 return False
             return self._keeps_alive(position, lasting, fact, others)
 
-        steps = self._way_steps(position, place, row, allows, most)
-        return steps if bound is None else [step for step in steps if self.cost_of(step) < bound]
+        return self._way_steps(position, place, row, allows, most)
 
     def _price_with(self, position, facts):
-        """The price of the position if these facts must stand, too."""
+        """The price of the child of a way with these facts."""
         known = self.base | position.must
-        new = sorted({fact for fact in facts if not self.numbers.get(fact, 0) & known})
-        return position.price + sum([self.prices[name][1] for name, _ in new])
+        own, rivals = 0, 0
+        price = position.price
+        for fact in sorted(set(facts)):
+            bit = self.numbers.get(fact, 0)
+            own |= bit
+            rivals |= self.sharers.get(self.key_of(fact), 0)
+            price += 0 if bit & known else self.prices[fact[0]][1]
+        return price + self.cost_of((rivals & position.standing & ~position.must & ~own, 0))
 
     def _lasting(self, position):
         """The facts that stand in each change of the position that does the wish."""
