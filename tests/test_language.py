@@ -14,7 +14,7 @@ METHODS = set("""append clear copy count endswith extend find get index insert i
     setdefault split splitlines startswith strip update upper values zfill bit_length add discard""".split())
 LIBRARY = {"heapq": ["heappop", "heappush"]}
 NO_ATTRIBUTES = set("""items keys values pop update append clear extend insert remove reverse setdefault sort args encode
-    decode hex fromhex format format_map mro rows facts count delete database""".split())
+    decode hex fromhex format format_map mro rows facts count delete database can_undo can_redo""".split())
 
 
 def trees():
@@ -83,7 +83,9 @@ class Language(unittest.TestCase):
     def test_builtins_and_methods(self):
         own = {node.name for tree in trees().values() for node in nodes(tree, ast.FunctionDef)}
         for path, tree in trees().items():
-            read = {node.id for node in nodes(tree, ast.Name) if node.id in vars(builtins)}
+            over = [each for function in nodes(tree, ast.FunctionDef) for each in function.decorator_list]
+            self.assertEqual([each for each in over if not isinstance(each, ast.Name) or each.id != "property"], [])
+            read = {node.id for node in nodes(tree, ast.Name) if node.id in vars(builtins) and node not in over}
             self.assertEqual(read - BUILTINS, set(), path)
             called = {node.func.attr for node in nodes(tree, ast.Call) if isinstance(node.func, ast.Attribute)}
             self.assertEqual(called - METHODS - own, set(), path)
@@ -99,6 +101,23 @@ class Language(unittest.TestCase):
         for path, tree in trees().items():
             stored = {node.attr for node in nodes(tree, ast.Attribute) if isinstance(node.ctx, ast.Store)}
             self.assertEqual(stored & NO_ATTRIBUTES, set(), path)
+
+    def test_sorted_takes_no_generator(self):
+        for path, tree in trees().items():
+            calls = [node for node in nodes(tree, ast.Call) if isinstance(node.func, ast.Name)]
+            generators = [call for call in calls if call.func.id == "sorted"
+                          and isinstance(call.args[0], ast.GeneratorExp)]
+            self.assertEqual(generators, [], path)
+
+    def test_properties_and_operators_are_short(self):
+        # What they may do is told narrowly, so each of them is a single statement that calls hardly anything.
+        for path, tree in trees().items():
+            for function in nodes(tree, ast.FunctionDef):
+                if function.decorator_list or function.name in ("__len__", "__iter__", "__contains__"):
+                    rows = [row for row in function.body if not isinstance(row, ast.Expr)]
+                    called = {node.func.id for node in nodes(function, ast.Call)}
+                    self.assertTrue(len(rows) == 1 and isinstance(rows[0], ast.Return), (path, function.name))
+                    self.assertLessEqual(called, {"len", "iter", "list"}, (path, function.name))
 
     def test_generators_have_names_of_their_own(self):
         functions = [node for tree in trees().values() for node in nodes(tree, ast.FunctionDef)]
