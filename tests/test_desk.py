@@ -22,6 +22,7 @@ STAFF = (1, [((X,), [("emp", (X, Y))], [])])
 VIEWS = [CHIEFS, STAFF]
 ALL, NONE = (True, True), (False, False)
 OFF, ON = [(0, "remove", ("ann", "cy"))], [(0, "add", ("ann", "di")), (0, "remove", ("ann", "cy"))]
+BOTH_OFF = [(1, "remove", ("ann",)), (0, "remove", ("ann", "cy")), (1, "remove", ("bea",)), (0, "remove", ("bea", "di"))]
 # Both can be done in one way only: ann gets the place of bea.
 MOVE = ([ANN], [("emp", ("ann", "y"))])
 UNDONE, REDONE = ("undo",), ("redo",)
@@ -241,6 +242,22 @@ class Editing(Case):
         self.assertEqual(desk.undo(), inverse(MOVE))
         self.assertEqual(told(desk)[:2], before[:2])
         self.assertEqual(desk.edit(OFF)[0], [ANN])
+
+    def test_what_was_handed_in_can_be_changed_at_once(self):
+        args = copy.deepcopy([SCHEMA, FACTS, VIEWS, [ALL, NONE]])
+        desk = Desk(args[0], args[1], args[2], may=args[3])
+        journal = [("edit", list(ON), copy.deepcopy(MOVE)), ("change", ([], [("boss", ("z", "ed"))])), UNDONE]
+        more = copy.deepcopy([SCHEMA, FACTS, VIEWS, [ALL, NONE]])
+        other = replay(more[0], more[1], more[2], journal, may=more[3])
+        spoil(args)
+        spoil(more)
+        spoil(journal)
+        self.assertEqual(told(desk), told(made()))
+        self.assertEqual(desk.edit(ON), MOVE)
+        desk.put(([], [("boss", ("z", "ed"))]))
+        desk.undo()
+        self.assertEqual(told(other), told(desk))
+        self.assertEqual(future(other), future(desk))
 
     def test_an_error_changes_no_argument(self):
         desk = made()
@@ -482,11 +499,17 @@ class Replaying(Case):
             # The change does not do the wish.
             (ON, EMPTY), (ON, ([ANN], [])), (ON, ([ANN], [("emp", ("ann", "z"))])), ([], MOVE),
             (OFF, ([XC], [])), (ON, ([], [("emp", ("ann", "y"))])),
+            # It does the wish, but its facts are not in order.
+            (BOTH_OFF, ([BEA, ANN], [])),
             # A change with fewer facts does it.
             ([], ([ANN], [("emp", ("ann", "x")), ("emp", ("q", "q"))])),
             (OFF, ([ANN, BEA], [("emp", ("ann", "q")), ("emp", ("bea", "q"))])),
         ]:
             self.check_wrong(("edit", edits, change))
+
+    def test_an_edit_with_several_facts(self):
+        desk = self.replayed([("edit", BOTH_OFF, ([ANN, BEA], []))])
+        self.assertEqual(desk.database, [XC, YD])
 
     def test_a_change_that_is_not_the_least_one(self):
         views = [CHIEFS]

@@ -210,6 +210,17 @@ class Clash(unittest.TestCase):
         edits = [OFF_ANN, OFF_BEA, (0, "remove", ("cat", "cy"))]
         self.assertIsNone(clash(task(edits, [NONE, DELETE], facts=[ANN, BEA, cat, XC])))
 
+    def test_what_is_needed_at_first_may_not_be_needed_later(self):
+        # Without the first edit the other two can be done together, but the last one alone is a clash.
+        edits = [(0, "add", ("cat", "cy")), OFF_ANN, OFF_BEA]
+        told = task(edits, [INSERT, DELETE])
+        self.assertEqual([places for places in lists_of(told) if can_do(told, places)], [[], [0], [1, 2]])
+        self.assertIn(pure(self, clash, told), [[1], [2]])
+        for order in itertools.permutations(edits):
+            told = task(order, [INSERT, DELETE])
+            self.assertTrue(is_clash(told, clash(told)))
+        self.assertEqual(pure(self, give_up, task(edits, [INSERT, DELETE])), [[0]])
+
     def test_the_same_edit_twice(self):
         told = task([OFF_ANN, OFF_ANN], [NONE, DELETE])
         self.assertIn(pure(self, clash, told), [[0], [1]])

@@ -132,7 +132,7 @@ class Desk:
         return True
 
     def _task(self, edits):
-        return (self._schema, self._facts, self._views, (list(edits), self._may))
+        return (self._schema, self._facts, self._views, (edits, self._may))
 
     def _make(self, entry, change):
         """Make the change, for which the entry stands in the journal, if the database after it is right."""

@@ -31,14 +31,14 @@ def mends(schema, facts):
         longer = []
         for chosen in found:
             free = not any(other in chosen for other in rivals)
+            # Mends with the fact come ahead of those without it, which keeps them in order.
             if free:
                 longer.append(chosen + [fact])
             # Without the fact a rival of it must be in the mend.
             if not free or later:
                 longer.append(chosen)
         found = longer
-    places = sorted([[facts.index(fact) for fact in chosen] for chosen in found])
-    return [[facts[place] for place in chosen] for chosen in places]
+    return found
 
 
 def is_mend(schema, facts, part):
