@@ -1,8 +1,9 @@
 import itertools
 import unittest
+from unittest import mock
 
 from helpers import X, Y, Z, Maker, all_facts, pure, small_changes
-from wishshown import explaining
+from wishshown import explaining, searching
 from wishshown.explaining import can_do, clash, company, give_up
 from wishshown.fresh import fresh_words, words_in_use
 from wishshown.refuting import refute
@@ -286,14 +287,24 @@ class GiveUp(unittest.TestCase):
         self.assertEqual(pure(self, company, told), [(1, "remove", ("x",))])
 
 
+def part_with(told, further):
+    """The task with further edits."""
+    schema, facts, views, (edits, may) = told
+    return (schema, facts, views, (edits + further, may))
+
+
+# Here changes with the fewest facts that do the edits have more company than others.
+MORE_FACTS = [267, 271, 392, 419, 434, 435, 559, 577, 584, 637, 688, 698, 713, 736, 778, 853, 928, 931, 946, 988]
+
+
 class Company(unittest.TestCase):
     def check(self, told):
         """Check what points 62 and 63 say of the answer, but that there are no fewer."""
         found = pure(self, company, told)
         if found is None:
             return None
-        schema, facts, views, (edits, may) = told
-        self.assertIsNotNone(solve((schema, facts, views, (edits + found, may))))
+        _, facts, views, (edits, _) = told
+        self.assertIsNotNone(solve(part_with(told, found)))
         self.assertEqual(found, sorted(found))
         named = [(place, row) for place, _, row in edits]
         self.assertEqual([edit for edit in found if (edit[0], edit[2]) in named], [])
@@ -361,7 +372,7 @@ class Company(unittest.TestCase):
 
     def test_made_tasks(self):
         lengths = {}
-        for seed in range(300):
+        for seed in [*range(200), *MORE_FACTS]:
             told = made_edits(seed)
             found = self.check(told)
             lengths[found if found is None else len(found)] = True
@@ -370,7 +381,7 @@ class Company(unittest.TestCase):
 
     def test_no_small_change_has_less_company(self):
         count = 0
-        for seed in range(120):
+        for seed in [*range(100), *MORE_FACTS]:
             told = made_edits(seed)
             found = company(told)
             others = [other_rows(told, change) for change in allowed_changes(told, 2)]
@@ -382,16 +393,40 @@ class Company(unittest.TestCase):
                 count += len(found) == least > 0
         self.assertGreater(count, 10)
 
+    def test_a_change_with_more_facts_has_less_company(self):
+        # Taking ann away leaves neither her nor her place; if she moves to bea, no more than the place is gone.
+        views = [CHIEFS, STAFF, (1, [((Y,), [("emp", (X, Y))], [])])]
+        told = task([OFF_ANN], [ALL, NONE], views, [ANN, ("emp", ("bea", "y")), XC])
+        self.assertEqual(len(self.check(told)), 1)
+
+    def test_the_smaller_side_of_a_join(self):
+        # Either all that goes with the one fact is lost, or all that goes with the other one.
+        many = [("emp", (f"w{place}", "x")) for place in range(4)] + [XC]
+        chiefs = [ANN] + [("boss", ("x", f"w{place}")) for place in range(4)]
+        places, bosses = (2, [((X, Y), [("emp", (X, Y))], [])]), (2, [((X, Y), [("boss", (X, Y))], [])])
+        told = task([(0, "remove", ("w0", "cy"))], [DELETE, DELETE], [CHIEFS, places, bosses], many)
+        self.assertEqual(self.check(told), [(1, "remove", ("w0", "x"))])
+        told = task([(0, "remove", ("ann", "w0"))], [DELETE, DELETE], [CHIEFS, places, bosses], chiefs)
+        self.assertEqual(self.check(told), [(2, "remove", ("x", "w0"))])
+
+    def test_a_whole_search_finds_as_few(self):
+        # Most answers are found by the first attempts already; without these the search behind them has to find them.
+        told = [made_edits(seed) for seed in [*range(100), *MORE_FACTS]]
+        first = [company(each) for each in told]
+        with mock.patch.object(searching, "PROBES", ()):
+            for each, found in zip(told, first):
+                other = self.check(each)
+                self.assertEqual(None if other is None else len(other), None if found is None else len(found))
+
     def test_no_single_edit_does_where_there_are_two(self):
         count = 0
-        for seed in range(300):
+        for seed in [*range(300), *MORE_FACTS]:
             told = made_edits(seed)
-            schema, facts, views, (edits, may) = told
             found = company(told)
             if found is not None and len(found) == 2:
                 count += 1
                 for edit in single_edits(told):
-                    self.assertIsNone(solve((schema, facts, views, (edits + [edit], may))), (seed, edit))
+                    self.assertIsNone(solve(part_with(told, [edit])), (seed, edit))
         self.assertGreater(count, 5)
 
 

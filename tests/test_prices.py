@@ -1,7 +1,9 @@
 import unittest
+from unittest import mock
 
 from helpers import U, X, Y, Z, made_task, plain_children, pure, small_changes
 from wishshown import prices as prices_file
+from wishshown import searching
 from wishshown.cases import change_of, children, first_case
 from wishshown.fresh import fresh_words, words_in_use
 from wishshown.prices import bound_tree, cheapest, is_bound_tree, price_of
@@ -197,6 +199,20 @@ class Cheapest(unittest.TestCase):
             if answer is not None:
                 self.assertEqual(answer[0], 3 * len(solve(told)[0] + solve(told)[1]))
         self.assertGreater(count, 50)
+
+    def test_a_whole_search_finds_the_same_price(self):
+        # Without the first attempts at an answer the search begins with no bound.
+        for seed in range(250):
+            told = made_task(seed)
+            prices = made_prices(seed, told)
+            answer = cheapest(told, prices=prices)
+            with mock.patch.object(searching, "PROBES", ()):
+                other = cheapest(told, prices=prices)
+            self.assertIs(answer is None, other is None)
+            if other is not None:
+                self.assertEqual(other[0], answer[0])
+                self.assertEqual(plain_price(told, prices, other[1]), answer[0])
+                self.assertTrue(does(told, other[1]))
 
     def test_no_small_change_is_cheaper(self):
         count = 0
