@@ -1,4 +1,5 @@
 import unittest
+from unittest import mock
 
 from helpers import U, X, Y, Z, made_task, pure, small_changes, words_for
 from wishshown import searching
@@ -294,6 +295,51 @@ class MadeTasks(unittest.TestCase):
             pure(self, solve, told, most=2)
             pure(self, all_least, told)
             pure(self, lambda each: list(ends(each)), told)
+
+
+class WholeSearch(unittest.TestCase):
+    """Most answers are found by the first attempts; without these the search behind them has to find them."""
+
+    def setUp(self):
+        patch = mock.patch.object(searching, "PROBES", ())
+        patch.start()
+        self.addCleanup(patch.stop)
+
+    def test_one_fact_for_several_atoms(self):
+        view = (1, [((X,), [("emp", (X, Y)), ("emp", (Y, X))], [])])
+        self.assertEqual(solve(task([(0, "add", ("n",))], views=[view])), ([], [emp("n", "n")]))
+        view = (2, [((X, Z), [("emp", (X, Y)), ("emp", (Z, Y))], [])])
+        self.assertEqual(count_of(solve(task([(0, "add", ("n", "n"))], views=[view], facts=[]))), 1)
+        view = (2, [((X, Z), [("emp", (X, Y)), ("emp", (Y, Z)), ("emp", (Z, U))], [])])
+        self.assertEqual(solve(task([(0, "add", ("n", "n"))], views=[view], facts=[])), ([], [emp("n", "n")]))
+
+    def test_one_fact_for_several_rows(self):
+        views = [(1, [((X,), [("emp", (X, Y))], [])]), (1, [((Y,), [("emp", (X, Y))], [])])]
+        edits = [(0, "add", ("n",)), (1, "add", ("m",)), (0, "remove", ("bea",)), (1, "remove", ("y",))]
+        self.assertEqual(solve(task(edits, views=views, facts=[ANN, BEA])), ([BEA], [emp("n", "m")]))
+
+    def test_made_tasks(self):
+        done = 0
+        for seed in range(250):
+            told = made_task(seed)
+            change = solve(told)
+            least = all_least(told)
+            self.assertIs(change is None, least == [])
+            if change is not None:
+                self.assertEqual(count_of(change), count_of(least[0]))
+                self.assertTrue(does(told, change))
+                done += count_of(change) > 1
+        self.assertGreater(done, 15)
+
+    def test_small_changes(self):
+        for seed in range(60):
+            told = made_task(seed, words=("a",), most=3)
+            counts = [count_of(change) for change in small_changes(told, 3, 1)]
+            change = solve(told)
+            if counts:
+                self.assertEqual(count_of(change), min(counts))
+            elif change is not None:
+                self.assertGreater(count_of(change), 3)
 
 
 class Interface(unittest.TestCase):
