@@ -2,7 +2,7 @@
 
 from wishshown.board import Board
 from wishshown.refuting import is_tree_of, tree_of
-from wishshown.searching import cheapest_end
+from wishshown.searching import any_end, cheapest_end
 from wishshown.tables import place_of
 
 
@@ -23,7 +23,7 @@ def cheapest(task, *, prices):
 def bound_tree(task, *, prices, bound):
     """A bound tree of the task; None if a change that does the wish costs less than the bound."""
     narrow = Board(task, narrow=True, prices=prices)
-    if cheapest_end(narrow, bound - 1) is not None:
+    if any_end(narrow, most=bound - 1) is not None:
         return None
     board = Board(task, prices=prices)
     # What stood in the way before is looked at first, which keeps the tree small.

@@ -43,13 +43,16 @@ def _rank(schema, change):
     return (len(deleted) + len(inserted), deleted, inserted)
 
 
-def any_end(board):
-    """A settled position; None if there is none."""
+def any_end(board, *, most=None):
+    """A settled position, whose price is at most most if this is given; None if there is none."""
     told = probe(board)
-    if told is None:
-        for position in _settled(board, None):
-            return position
-    return None if told is False else told
+    if told is False:
+        return None
+    if told is not None and (most is None or told.price <= most):
+        return told
+    for position in _settled(board, most):
+        return position
+    return None
 
 
 def cheapest_end(board, most):
