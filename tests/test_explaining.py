@@ -284,6 +284,8 @@ class GiveUp(unittest.TestCase):
         told = ([("emp", 2, None)], facts, [PLACES, (1, [((Y,), [("emp", (X, Y))], [])])], (edits, [ALL]))
         self.assertEqual(pure(self, give_up, told), [[place] for place in range(9)])
         self.assertEqual(pure(self, clash, told), list(range(9)))
+        self.assertEqual(len(pure(self, company, told)), 1)
+        told = (told[0], facts, told[2], (edits, [DELETE]))
         self.assertEqual(pure(self, company, told), [(1, "remove", ("x",))])
 
 
@@ -333,9 +335,9 @@ class Company(unittest.TestCase):
         found = self.check(told)
         self.assertEqual(len(found), 2)
         # Ann moves to another place; adding stands before removing.
-        told = ([("emp", 2, 1)], [ANN], [PLACES, (1, [((Y,), [("emp", (X, Y))], [])])],
-                ([(0, "add", ("ann", "y"))], [ALL]))
-        self.assertEqual(self.check(told), [(0, "remove", ("ann", "x")), (1, "add", ("y",)), (1, "remove", ("x",))])
+        places = (1, [((Y,), [("emp", (X, Y))], [])])
+        told = ([("emp", 2, 1)], [ANN], [STAFF, places, PLACES], ([(2, "add", ("ann", "y"))], [ALL]))
+        self.assertEqual(self.check(told), [(1, "add", ("y",)), (1, "remove", ("x",)), (2, "remove", ("ann", "x"))])
 
     def test_company_is_no_edit_of_the_wish(self):
         told = task([OFF_ANN, (0, "add", ("bea", "cy"))], [NONE, DELETE])
@@ -357,13 +359,38 @@ class Company(unittest.TestCase):
         # Who comes below di needs a place, and the view of places shows it.
         told = task([(0, "add", ("new", "di"))], views=[CHIEFS, PLACES])
         self.assertEqual(self.check(told), [(1, "add", ("new", "a0"))])
-        told = task([(0, "add", ("new", "di"))], views=[CHIEFS, PLACES], facts=FACTS + [("boss", ("zz", "a0"))])
-        self.assertEqual(self.check(told), [(1, "add", ("new", "a1"))])
+        told = task([(0, "add", ("new", "di"))], views=[CHIEFS, PLACES], facts=FACTS + [("boss", ("a1", "a0"))])
+        self.assertIn(self.check(told), [[(1, "add", ("new", "a1"))], [(1, "add", ("new", "a2"))]])
+        told = task([(0, "add", ("new", "di"))], [ALL, INSERT], [CHIEFS, PLACES], FACTS + [("emp", ("a1", "a0"))])
+        self.assertEqual(self.check(told), [(1, "add", ("new", "a2"))])
         # Both places can be the same; so that di and ed stay apart, they are not.
         told = task([(0, "add", ("n", "di")), (0, "add", ("m", "ed"))], views=[CHIEFS, PLACES])
         found = self.check(told)
         self.assertEqual([edit[0] for edit in found], [1, 1])
         self.assertEqual({edit[2][1] for edit in found}, {"a0", "a1"})
+
+    def test_several_rows_that_differ_in_fresh_words_alone(self):
+        # Each place has one boss, so who comes below several bosses needs as many places.
+        schema = [("emp", 2, None), ("boss", 2, 1)]
+        for count in range(1, 5):
+            edits = [(0, "add", ("new", f"c{number}")) for number in range(count)]
+            told = (schema, [ANN, XC], [CHIEFS, PLACES], (edits, [ALL, INSERT]))
+            for probes in [searching.PROBES, ()]:
+                with mock.patch.object(searching, "PROBES", probes):
+                    self.assertEqual(self.check(told), [(1, "add", ("new", f"a{number}")) for number in range(count)])
+
+    def test_much_company(self):
+        # Without p0 all others lose the rows that they share with him, both ways; or else they lose their boss.
+        people = [f"p{number}" for number in range(8)]
+        pairs = (2, [((X, Z), [("emp", (X, Y)), ("emp", (Z, Y))], [(X, "!=", Z)])])
+        schema = [("emp", 2, 1), ("boss", 2, 1)]
+        facts = [("emp", (name, "x")) for name in people] + [XC]
+        told = (schema, facts, [CHIEFS, pairs], ([(0, "remove", ("p0", "cy"))], [DELETE, NONE]))
+        found = self.check(told)
+        self.assertEqual(len(found), 14)
+        self.assertTrue(all(edit[0] == 1 and "p0" in edit[2] for edit in found))
+        told = (schema, facts, [CHIEFS, pairs], ([(0, "remove", ("p0", "cy"))], [ALL, ALL]))
+        self.assertEqual(len(self.check(told)), 7)
 
     def test_more_than_six_edits_in_all(self):
         facts = [("emp", (f"w{place}", "x")) for place in range(9)] + [XC]

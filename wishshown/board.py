@@ -20,9 +20,8 @@ class Position:
     None as long as nobody has asked for it. before is the position of which this one is a child, or None. spoiling
     tells of facts whether they make an unwanted row if they must stand, too, as far as this was looked at.
 
-    free has the rows, with the places of their views, that may be there or not, whatever is wanted, and firm those that
-    cannot become free any more; left is the number of the rows that may become free besides, or None if all rows that
-    no edit names are free. weighed tells whether a search has weighed the position.
+    free has the rows, with the places of their views, that became free on the way here: they may be there or not,
+    whatever is wanted. weighed tells whether a search has weighed the position.
     """
 
     def __init__(self, gone, must, standing, before):
@@ -33,8 +32,6 @@ class Position:
         self.made = None
         self.spoiling = {}
         self.free = ()
-        self.firm = ()
-        self.left = 0
         self.price = 0
         self.weighed = False
 
@@ -43,20 +40,23 @@ class Board:
     """A task whose facts are numbered, the facts of the database first.
 
     With narrow the ways have only those words in use that cannot be replaced by fresh ones. Without prices each
-    deleted or inserted fact costs 1. left is that of the first positions.
+    deleted or inserted fact costs 1. room has for kinds of rows how many rows of the kind that no edit names may be
+    there or not, whatever is wanted; others is this number for all other kinds, where None stands for all their rows.
     """
 
-    def __init__(self, task, *, narrow=False, prices=None, left=0):
+    def __init__(self, task, *, narrow=False, prices=None, room=None, others=0):
         schema, base, views, (edits, may) = task
         self.schema = schema
         self.views = views
         self.rules = [(place, rule) for place, (_, rules) in enumerate(views) for rule in rules]
         self.used = words_in_use(task)
+        self.in_use = {word: True for word in self.used}
         self.choices = telling_words(task) if narrow else None
         self.may = {table[0]: pair for table, pair in zip(schema, may)}
         self.prices = {table[0]: (1, 1) if prices is None else prices[place] for place, table in enumerate(schema)}
         self.named = {(place, row): True for place, _, row in edits}
-        self.left = left
+        self.room = {} if room is None else room
+        self.others = others
         self.key_widths = {name: key for name, _, key in schema}
         # A dict keeps its order: the wanted rows stand view by view, ascending.
         self.wanted = {(place, row): True for place, wanted_rows in enumerate(wanted(task)) for row in wanted_rows}
@@ -67,6 +67,8 @@ class Board:
         # What was found out about wanted rows: how often they were impossible, and what facts they need.
         self.blame = {}
         self.shapes = {}
+        # The rows that would make a difference if they were free, as far as this came up.
+        self.reasons = {}
         self.base = self.bits_of(base)
         self.fixed = self.bits_of([fact for fact in base if not self.may[fact[0]][0]])
 
@@ -102,30 +104,19 @@ class Board:
 
     def position_of(self, case):
         """The position of a case."""
-        position = self._position((self.bits_of(case[0]), self.bits_of(case[1])), None)
-        position.left = self.left
-        return position
+        return self._position((self.bits_of(case[0]), self.bits_of(case[1])), None)
 
     def moved(self, position, step):
         """The position of a child."""
         child = self._position(step, position)
-        child.free, child.firm, child.left = position.free, position.firm, position.left
+        child.free = position.free
         return child
 
     def freed(self, position, each):
         """The position with this row free, besides."""
-        other = self._with_rows(position, tuple(sorted([*position.free, each])), position.firm)
-        other.left = position.left - 1
-        return other
-
-    def firmed(self, position, each):
-        """The position in which this row cannot become free."""
-        return self._with_rows(position, position.free, tuple(sorted([*position.firm, each])))
-
-    def _with_rows(self, position, free, firm):
         other = self._position((position.gone, position.must), None)
         other.made = position.made
-        other.free, other.firm, other.left = free, firm, position.left
+        other.free = tuple(sorted([*position.free, each]))
         return other
 
     def _position(self, step, before):
@@ -175,15 +166,35 @@ class Board:
         made = [(place, filled(rule[0], words), self.bits_of(facts_by(rule[1], words))) for place, rule, words in found]
         return list({each: True for each in made})
 
+    def kind_of(self, each):
+        """The row with its place, and with signs in place of the words that are not in use."""
+        place, row = each
+        if all(word in self.in_use for word in row):
+            return each
+        new = [word for count, word in enumerate(row) if word not in self.in_use and word not in row[:count]]
+        return (place, tuple([f"?{new.index(word)}" if word in new else word for word in row]))
+
     def minds(self, position, each):
         """Tell whether the row is not free."""
-        return (position.left is not None or each in self.named) and each not in position.free
+        if each in self.named or (self.others == 0 and not self.room):
+            return True
+        if each in position.free:
+            return False
+        kind = self.kind_of(each)
+        room = self.room.get(kind, self.others)
+        # If only some rows of a kind can be free, it has to be chosen which ones.
+        return room == 0 or (room is not None and kind != each)
 
     def is_soft(self, position, each):
         """Tell whether the row, which is not free, may become free."""
-        if position.left is None or position.left == 0:
+        if each in self.named or not self.room:
             return False
-        return each not in self.named and each not in position.firm
+        kind = self.kind_of(each)
+        return self.room.get(kind, 0) > len([other for other in position.free if self.kind_of(other) == kind])
+
+    def note(self, each):
+        """Keep in mind that it would make a difference if the row were free."""
+        self.reasons[each] = True
 
     def extras(self, position):
         """The rows that are there and not wanted, each (place, row, bits) with a witness."""
@@ -274,22 +285,19 @@ class Board:
         return steps
 
     def _makes_extra(self, position, lasting, others, fact):
-        """Tell whether the fact makes rows that must not be, with the others and with the lasting facts.
+        """Tell whether the fact makes a row that must not be, with the others and with the lasting facts.
 
-        Rows that may become free must not be more than can become it. The lasting facts are told by the rows of each
-        name.
+        The lasting facts are told by the rows of each name.
         """
         tables = dict(lasting)
         for name, row in others + [fact]:
             tables[name] = tables.get(name, []) + [row]
-        soft = {}
         for place, rule in self.rules:
             for words in words_with(tables, rule, fact):
                 each = (place, filled(rule[0], words))
-                if each not in self.wanted and self.minds(position, each):
-                    soft[each] = True
-                    if not self.is_soft(position, each) or len(soft) > position.left:
-                        return True
+                if each not in self.wanted and self.minds(position, each) and not self.is_soft(position, each):
+                    self.note(each)
+                    return True
         return False
 
     def _words_for(self, position, spot, row):

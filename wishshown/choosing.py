@@ -32,8 +32,10 @@ def choose(board, position, *, bound=None):
             best = (("missing", place, row), steps)
             count = len(steps) + spare
             divisor = own
-    if count == 0 and best[0][0] == "missing":
-        board.put_blame(best[0][1], best[0][2])
+    kind, place, row = best[0][:3]
+    board.note((place, row))
+    if count == 0 and kind == "missing":
+        board.put_blame(place, row)
     return best
 
 

@@ -2,6 +2,7 @@
 
 from wishshown.board import Board
 from wishshown.fresh import fresh_words, strange_words, words_in_use
+from wishshown.obstacles import can_be_forced, sparing_change
 from wishshown.searching import any_end
 from wishshown.wishes import wish_of
 
@@ -45,7 +46,7 @@ def give_up(task):
     if can_do(task, places):
         return [[]]
     # An edit that cannot be done even if all other rows may change has to be given up in any case.
-    hopeless = [place for place in places if any_end(_loose_board(_part_of(task, [place]))) is None]
+    hopeless = [place for place in places if not can_be_forced(_part_of(task, [place]))]
     others = [place for place in places if place not in hopeless]
     found = []
     count = 0
@@ -65,22 +66,8 @@ def _lists_of(places, count):
 
 def company(task):
     """The fewest further edits with which the wish can be done; None if there are none."""
-    board = _loose_board(task)
-    end = any_end(board)
-    if end is None:
-        return None
-    edits = _further_edits(task, board.change_of(end))
-    for count in range(len(edits)):
-        board = Board(task, narrow=True, left=count)
-        end = any_end(board)
-        if end is not None:
-            return _further_edits(task, board.change_of(end))
-    return edits
-
-
-def _loose_board(task):
-    """The task laid out so that all rows that no edit names are free."""
-    return Board(task, narrow=True, left=None)
+    change = sparing_change(task)
+    return None if change is None else _further_edits(task, change)
 
 
 def _further_edits(task, change):

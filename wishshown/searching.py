@@ -6,7 +6,7 @@ from wishshown.board import Board
 from wishshown.choosing import choose
 from wishshown.fresh import is_renamed_part, least_form
 from wishshown.tables import place_of
-from wishshown.weighing import forced, weight
+from wishshown.weighing import weight
 
 # How many positions the attempts of a probe look at.
 PROBES = (50, 200, 800)
@@ -85,8 +85,7 @@ def probe(board):
             chosen = choose(board, position)
             if chosen is None:
                 return position
-            if forced(board, position) <= (position.left or 0):
-                waiting.extend(_children(board, position, chosen))
+            waiting.extend(_children(board, position, chosen))
         if not waiting:
             return False
     return None
@@ -96,10 +95,8 @@ def _children(board, position, chosen):
     """What the position is parted into by the chosen node; ahead of all, the one in which its row is free."""
     node, steps = chosen
     _, place, row = node[:3]
-    if not board.is_soft(position, (place, row)):
-        return [board.moved(position, step) for step in steps]
-    firm = board.firmed(position, (place, row))
-    return [board.freed(position, (place, row))] + [board.moved(firm, step) for step in steps]
+    freed = [board.freed(position, (place, row))] if board.is_soft(position, (place, row)) else []
+    return freed + [board.moved(position, step) for step in steps]
 
 
 def _settled(board, most):
@@ -131,7 +128,7 @@ def _settled(board, most):
             yield position
             continue
         for child in _children(board, position, chosen):
-            key = (child.gone, child.must, child.free, child.firm)
+            key = (child.gone, child.must, child.free)
             if key not in seen:
                 seen[key] = True
                 turn += 1

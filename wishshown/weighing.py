@@ -9,29 +9,11 @@ WHOLE = 720720
 
 def weight(board, position):
     """A price that each change of the position that does the wish costs; None if there is no such change."""
-    if forced(board, position) > (position.left or 0):
-        return None
     deletions = _deletions(board, position)
     insertions = _insertions(board, position)
     if deletions is None or insertions is None:
         return None
     return position.price + deletions + insertions
-
-
-def forced(board, position):
-    """The number of the rows that must become free, as far as this is seen at once."""
-    if not position.left:
-        return 0
-    extras = [
-        (place, row) for place, row, bits in board.extras(position)
-        if board.is_soft(position, (place, row)) and board.options(position, bits) == 0
-    ]
-    missing = [each for each in board.missing(position) if board.is_soft(position, each)]
-    shapes = [_shapes(board, place, row) for place, row in missing]
-    every = [shape for rules in shapes for atoms in rules for shape in atoms]
-    there = _shapes_there(every, board.listed(position.standing))
-    barred = [rules for rules in shapes if all(_is_barred(board, atoms, there) for atoms in rules)]
-    return len(set(extras)) + len(barred)
 
 
 def _is_barred(board, atoms, there):
@@ -41,11 +23,13 @@ def _is_barred(board, atoms, there):
 
 def _deletions(board, position):
     """The price of some extra witnesses without common facts: each of them must lose a fact."""
-    extras = [bits for place, row, bits in board.extras(position) if not board.is_soft(position, (place, row))]
     taken = 0
     total = 0
-    for options in sorted([board.options(position, bits) for bits in extras], key=how_many):
+    extras = [each for each in board.extras(position) if not board.is_soft(position, each[:2])]
+    pairs = [(board.options(position, bits), (place, row)) for place, row, bits in extras]
+    for options, each in sorted(pairs, key=lambda pair: how_many(pair[0])):
         if options == 0:
+            board.note(each)
             return None
         if not options & taken:
             taken |= options
@@ -74,6 +58,7 @@ def _insertions(board, position):
         least = min([cost for cost in costs if cost is not None], default=None)
         if least is None:
             board.put_blame(place, row)
+            board.note((place, row))
             return None
         total += least
     return (total + WHOLE - 1) // WHOLE
