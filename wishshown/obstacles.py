@@ -84,11 +84,11 @@ def _items_of(board):
 def _without_needless(obstacles):
     """The obstacles without the items in whose place another one does as well, which is kept."""
     spots = {}
-    for count, obstacle in enumerate(obstacles):
-        for item in obstacle:
+    for count, group in enumerate(obstacles):
+        for item in group:
             spots[item] = spots.get(item, 0) | 1 << count
     kept = {}
     for item, places in spots.items():
         kept.setdefault(places, item)
-    best = [item for places, item in kept.items() if not any(places != more and not places & ~more for more in kept)]
-    return [[item for item in obstacle if item in best] for obstacle in obstacles]
+    best = [each for spot, each in kept.items() if not any(spot != more and not spot & ~more for more in kept)]
+    return [[each for each in obstacle if each in best] for obstacle in obstacles]

@@ -16,16 +16,11 @@ def weight(board, position):
     return position.price + deletions + insertions
 
 
-def _is_barred(board, atoms, there):
-    """Tell whether a fact of some shape would have to be inserted that may not be."""
-    return not all(board.may[shape[0]][1] for shape in atoms if shape not in there)
-
-
 def _deletions(board, position):
     """The price of some extra witnesses without common facts: each of them must lose a fact."""
     taken = 0
     total = 0
-    extras = [each for each in board.extras(position) if not board.is_soft(position, each[:2])]
+    extras = [extra for extra in board.extras(position) if not board.is_soft(position, extra[:2])]
     pairs = [(board.options(position, bits), (place, row)) for place, row, bits in extras]
     for options, each in sorted(pairs, key=lambda pair: how_many(pair[0])):
         if options == 0:
@@ -134,9 +129,9 @@ def _are_alike(shape, other):
 
 def _cost(board, atoms, users, there):
     """What a missing row costs if a rule with facts of these shapes has it; None if it cannot."""
-    if _is_barred(board, atoms, there):
-        return None
     new = [shape for shape in atoms if shape not in there]
+    if not all(board.may[name][1] for name, _ in new):
+        return None
     if not new:
         # Facts of all shapes are there, but they do not make the row together.
         return min([_share(board, shape, users) for shape in atoms if board.may[shape[0]][1]], default=None)
