@@ -25,7 +25,7 @@ def fillings(rule, row, words, *, further, allows, most=None):
     for count, variable in enumerate(variables):
         due = _due(rule, variables[:count + 1], variable)
         longer = []
-        for assignment, come, facts in begun:
+        for assignment, come, facts in list(begun):
             for word in _choices(words[variable], further[:come + 1], fixed.get(variable)):
                 more = (*assignment, (variable, word))
                 longer.extend(_longer(facts, more, _come(word, further, come), due, allows))

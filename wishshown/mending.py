@@ -29,7 +29,7 @@ def mends(schema, facts):
         rivals = [other for other in facts if other != fact and same_key(schema, fact, other)]
         later = [other for other in facts[place + 1:] if other in rivals]
         longer = []
-        for chosen in found:
+        for chosen in list(found):
             free = not any(other in chosen for other in rivals)
             # Mends with the fact come ahead of those without it, which keeps them in order.
             if free:
